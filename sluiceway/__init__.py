@@ -1,0 +1,1 @@
+"""Sluiceway: a house of water, reckoned in whole cubes."""
