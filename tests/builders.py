@@ -1,4 +1,10 @@
-"""Places and houses for the tests: good ones, of which a test changes just what it is about."""
+"""What several tests share.
+
+Places and houses: good ones, of which a test changes just what it is about, or made by chance. Texts bent sign by
+sign. What reaches and turns come to, reckoned straight by the words of the document.
+"""
+
+from sluiceway.errors import WaterError
 
 PLAIN = ((0, ((10, 5, "river"),)),)
 GREAT = 10 ** 40 - 1
@@ -49,3 +55,222 @@ def forest(many):
     names = ["m" + "abcdefghijklmnop"[number] for number in range(many)]
     downs = names[1:] + ["sea"]
     return tuple([mill(name, down) for name, down in zip(names, downs)])
+
+
+def raised(call, *handed):
+    """The class and the field of what a call refuses, None where it tells something."""
+    try:
+        call(*handed)
+    except WaterError as refusal:
+        return (type(refusal), list(vars(refusal).values()))
+    return None
+
+
+def bent_texts(text, signs):
+    """The text with a sign left out, told twice, put in or put for another, at every place."""
+    bent = []
+    for place in range(len(text)):
+        bent.append(text[:place] + text[place + 1:])
+        bent.append(text[:place] + text[place] + text[place:])
+        bent += [text[:place] + sign + text[place + 1:] for sign in signs if sign != text[place]]
+    for place in range(len(text) + 1):
+        bent += [text[:place] + sign + text[place:] for sign in signs]
+    return bent
+
+
+def random_rule(random, year, most_pumped):
+    """A rule that is good in such a year, for a pump of which so much may go at most (None: no pump)."""
+    firsts = [0] + [first for first in range(1, year) if random.randrange(3) == 0]
+    rule = []
+    for first in firsts:
+        stairs = []
+        height = random.randrange(4)
+        pumped = 0
+        for step in range(random.randrange(5)):
+            many = random.randrange(1, 5)
+            way = "river"
+            if most_pumped is not None and pumped + many <= most_pumped and random.randrange(2) == 0:
+                way = "pump"
+                pumped += many
+            stairs.append((height, many, way))
+            height += many + random.choice((0, 0, 1, 3))
+        rule.append((first, tuple(stairs)))
+    return tuple(rule)
+
+
+def random_place(random, number, names, year):
+    """A good place of any kind, its river to any later name or to the sea."""
+    name = names[number]
+    down = random.choice(names[number + 1:number + 4] + ["sea"])
+    delay = random.choice((0, 0, 0, 1, 2, 5))
+    kind = random.choice(("basin", "basin", "town", "town", "town", "mill"))
+    if kind == "town":
+        return town(name, down, delay, random.randrange(7), random.randrange(3))
+    if kind == "mill":
+        return mill(name, down, delay, random.randrange(7))
+    pump = None
+    if len(names) > 1 and random.randrange(2) == 0:
+        others = [other for other in names if other != name]
+        pump = (random.choice(others), random.randrange(1, 6), random.randrange(9))
+    rule = random_rule(random, year, pump[2] if pump else None)
+    return basin(name, down, delay, random.randrange(15), rule, pump)
+
+
+def random_house(random):
+    """A good house of one to twelve places."""
+    year = random.choice((1, 2, 3, 5, 24))
+    names = ["m" + letter for letter in "abcdefghijkl"[:random.randrange(1, 13)]]
+    return (year, tuple([random_place(random, number, names, year) for number in range(len(names))]))
+
+
+def random_cubes(random, many, most=9):
+    """So many numbers from 0 on, about half of them 0."""
+    return tuple([random.choice((0, random.randrange(most + 1))) for number in range(many)])
+
+
+def random_state(random, house):
+    """A state of the house, with water on its way."""
+    brims = [place[4] if place[0] == "basin" else 0 for place in house[1]]
+    levels = tuple([random.choice((0, brim, random.randrange(brim + 1))) for brim in brims])
+    return (levels, tuple([random_cubes(random, 5) for brim in brims]))
+
+
+def above(rows, number):
+    """The row itself and all rows from which DOWNs lead to it."""
+    found = {number}
+    for other in reversed(range(number)):
+        if rows[other][0] in found:
+            found.add(other)
+    return found
+
+
+def passing(rows, takes):
+    """What passes each row, by the words of point 13."""
+    told = []
+    for number in range(len(rows)):
+        there = above(rows, number)
+        told.append(sum(rows[other][1] for other in there) - sum(takes[other] for other in there))
+    return told
+
+
+def possible(rows, takes):
+    """Whether so much may be taken, by the words of point 12."""
+    bounded = all(0 <= take <= row[2] for take, row in zip(takes, rows))
+    return bounded and min(passing(rows, takes), default=0) >= 0
+
+
+def order_of(rows):
+    return sorted(range(len(rows)), key=lambda number: (rows[number][3], number))
+
+
+def dry_by_words(rows, takes, number):
+    """The dry place of a row, by the words of point 14."""
+    order = order_of(rows)
+    behind = order[order.index(number) + 1:]
+    place = number
+    while True:
+        wetted = [other for other in behind if other in above(rows, place) and takes[other] > 0]
+        if passing(rows, takes)[place] == 0 and not wetted:
+            return place
+        place = rows[place][0]
+
+
+def shares_by_words(rows):
+    """The shares, cube by cube: who goes first takes one more as long as that is possible."""
+    takes = [0] * len(rows)
+    for number in order_of(rows):
+        while possible(rows, takes):
+            takes[number] += 1
+        takes[number] -= 1
+    return takes
+
+
+def opened_by_cubes(stairs, water):
+    """What stairs open, cube by cube: the cube that stands above `below` others goes by the step it stands in."""
+    ways = {"river": 0, "pump": 0, "stays": 0}
+    for below in range(water):
+        standing = [way for height, many, way in stairs if height <= below < height + many]
+        ways[standing[0] if standing else "stays"] += 1
+    return (ways["river"], ways["pump"], ways["stays"])
+
+
+def reaches_by_words(house):
+    """The reaches as lists of places: two towns or mills are together where a river without delay joins them."""
+    names = [place[1] for place in house[1]]
+    reaches = [[number] for number, place in enumerate(house[1]) if place[0] != "basin"]
+    for number, place in enumerate(house[1]):
+        if place[2] != "sea" and place[3] == 0:
+            joined = [reach for reach in reaches if number in reach or names.index(place[2]) in reach]
+            if len(joined) == 2:
+                reaches = [reach for reach in reaches if reach not in joined] + [sorted(joined[0] + joined[1])]
+    # A basin joins none: it is in no reach, so a river from or to it touches one reach at most.
+    return reaches
+
+
+def rows_by_words(house, reach, came_from_outside):
+    """The rows of a reach, WATER being all that comes but from places of the reach itself."""
+    names = [place[1] for place in house[1]]
+    rows = []
+    for number in reach:
+        place = house[1][number]
+        down = names.index(place[2]) if place[2] != "sea" and place[3] == 0 else None
+        need, rank = place[4:] if place[0] == "town" else (0, 0)
+        rows.append((reach.index(down) if down in reach else None, came_from_outside[number], need, rank))
+    return rows
+
+
+def came_by_words(house, state, flood, page, reach=()):
+    """All that comes to each place where a page tells what leaves, but from places of the reach itself."""
+    names = [place[1] for place in house[1]]
+    came = [cubes + ahead[0] for cubes, ahead in zip(flood, state[1])]
+    for number, place in enumerate(house[1]):
+        if place[2] != "sea" and place[3] == 0 and number not in reach:
+            came[names.index(place[2])] += page[number][2] + page[number][3]
+    return came
+
+
+def page_by_words(house, state, at, flood):
+    """The page of a turn: all places over and over, until nothing changes any more."""
+    page = [(0,) * 6] * len(house[1])
+    while True:
+        came = came_by_words(house, state, flood, page)
+        again = [None] * len(page)
+        for number, place in enumerate(house[1]):
+            if place[0] == "basin":
+                stairs = [stairs for first, stairs in place[5] if first <= at % house[0]][-1]
+                let, pumped, stays = opened_by_cubes(stairs, state[0][number] + came[number])
+                spilled = max(0, stays - place[4])
+                again[number] = (came[number], 0, spilled, let, pumped, stays - spilled)
+        for reach in reaches_by_words(house):
+            rows = rows_by_words(house, reach, came_by_words(house, state, flood, page, reach))
+            takes = shares_by_words(rows)
+            for number, took, let in zip(reach, takes, passing(rows, takes)):
+                again[number] = (took + let, took, 0, let, 0, 0)
+        if again == page:
+            return tuple(page)
+        page = again
+
+
+def rights_by_words(house, state, at, flood):
+    """The rights of a turn, by the page of it."""
+    page = page_by_words(house, state, at, flood)
+    told = [None] * len(page)
+    for reach in reaches_by_words(house):
+        rows = rows_by_words(house, reach, came_by_words(house, state, flood, page, reach))
+        takes = [page[number][1] for number in reach]
+        for row, number in enumerate(reach):
+            if takes[row] < rows[row][2]:
+                told[number] = reach[dry_by_words(rows, takes, row)]
+    return told
+
+
+def behind_by_words(house, state, page):
+    """The state behind a turn that has this page."""
+    names = [place[1] for place in house[1]]
+    coming = [list(ahead[1:]) + [0] for ahead in state[1]]
+    for place, row in zip(house[1], page):
+        if place[2] != "sea" and place[3] > 0:
+            coming[names.index(place[2])][place[3] - 1] += row[2] + row[3]
+        if place[0] == "basin" and place[6] is not None:
+            coming[names.index(place[6][0])][place[6][1] - 1] += row[4]
+    return (tuple([row[5] for row in page]), tuple([tuple(ahead) for ahead in coming]))

@@ -33,6 +33,13 @@ WORDS = re.compile(
     r"\b(type|typing|typing_extensions|enum|Enum|IntEnum|StrEnum|Flag|IntFlag|Generic|Protocol|ABC|ABCMeta|namedtuple"
     r"|NamedTuple|TypedDict|TYPE_CHECKING|abstractmethod)\b|dataclass|overload|contextmanager"
 )
+# Where what is walked at once may stand as the first thing, and what is walked so.
+WALKERS = "list tuple dict sorted sum any all enumerate zip min max".split()
+WALKED = "zip enumerate reversed range items keys values".split()
+KEYWORDS = {
+    "sorted": ("key", "reverse"), "min": ("key", "default"), "max": ("key", "default"), "sum": ("start",),
+    "enumerate": ("start",), "zip": ("strict",),
+}
 NOWHERE = "register mro elements open input version_info with_traceback add_note format format_map".split()
 
 
@@ -59,6 +66,23 @@ def top_names(path):
         elif isinstance(node, (ast.FunctionDef, ast.ClassDef)):
             names.append(node.name)
     return names
+
+
+def called_name(node):
+    """The name by which a node calls, None where it is no call."""
+    if not isinstance(node, ast.Call):
+        return None
+    return node.func.attr if isinstance(node.func, ast.Attribute) else getattr(node.func, "id", None)
+
+
+def walked_on_the_spot(path):
+    """The calls that stand where L23 lets what is walked at once stand."""
+    spots = [node.iter for node in nodes_of(path, ast.For, ast.comprehension)]
+    for node in nodes_of(path, ast.Call):
+        of_text = isinstance(node.func, ast.Attribute) and isinstance(node.func.value, ast.Constant)
+        if node.args and (called_name(node) in WALKERS or of_text and called_name(node) == "join"):
+            spots.append(node.args[0])
+    return [(spot.lineno, spot.col_offset) for spot in spots]
 
 
 def own_imports(path):
@@ -145,6 +169,62 @@ class Language(unittest.TestCase):
             called = [node.func.attr for node in nodes_of(path, ast.Call) if isinstance(node.func, ast.Attribute)]
             self.assert_none(sorted(set(called) - own), path)
             self.assert_none([node.attr for node in nodes_of(path, ast.Attribute) if node.attr in NOWHERE], path)
+
+    def test_parameters_and_annotations_l4_l21(self):
+        for path in FILES:
+            for node in nodes_of(path, ast.arguments):
+                self.assertEqual((node.vararg, node.kwarg, node.kwonlyargs, node.posonlyargs), (None, None, [], []))
+            self.assert_none([node.arg for node in nodes_of(path, ast.arg) if node.annotation], path)
+            self.assert_none([node.name for node in nodes_of(path, ast.FunctionDef) if node.returns], path)
+
+    def test_comprehensions_and_f_strings_l7(self):
+        for path in FILES:
+            for node in nodes_of(path, ast.ListComp):
+                self.assertEqual((len(node.generators), len(node.generators[0].ifs) <= 1), (1, True), path.name)
+            for node in nodes_of(path, ast.FormattedValue):
+                self.assertIsInstance(node.value, ast.Name, path.name)
+                self.assertIsNone(node.format_spec, path.name)
+
+    def test_no_local_is_called_like_a_class_or_an_import_l15(self):
+        for path in FILES:
+            taken = [node.name for node in nodes_of(path, ast.ClassDef)]
+            taken += [alias.name for node in nodes_of(path, ast.ImportFrom) for alias in node.names]
+            names = [node.id for node in nodes_of(path, ast.Name) if isinstance(node.ctx, ast.Store)]
+            names += [node.arg for node in nodes_of(path, ast.arg)]
+            self.assert_none(sorted(set(names) & set(taken)), path)
+
+    def test_top_lists_and_dicts_hold_none_l15(self):
+        for path in FILES:
+            for node in tree_of(path).body:
+                if isinstance(node, ast.Assign):
+                    held = [part for part in ast.walk(node.value) if isinstance(part, (ast.List, ast.Dict))]
+                    self.assertLessEqual(len(held), 1, path.name)
+
+    def test_no_method_is_a_value_l18(self):
+        for path in FILES:
+            methods = [node.name for kind in nodes_of(path, ast.ClassDef) for node in kind.body
+                       if isinstance(node, ast.FunctionDef)]
+            values = [node.attr for node in nodes_of(path, ast.Attribute) if isinstance(node.ctx, ast.Store)]
+            self.assert_none(sorted(set(methods) & set(values)), path)
+
+    def test_handlers_l19(self):
+        for path in FILES:
+            for node in nodes_of(path, ast.ExceptHandler):
+                self.assertIsInstance(node.type, ast.Name, path.name)
+                self.assertNotIn(node.type.id, ("Exception", "TypeError"), path.name)
+
+    def test_keywords_l22(self):
+        for path in FILES:
+            for node in nodes_of(path, ast.Call):
+                if called_name(node) in OWN_NAMES + METHODS:
+                    allowed = KEYWORDS.get(called_name(node), ())
+                    self.assert_none([keyword.arg for keyword in node.keywords if keyword.arg not in allowed], path)
+
+    def test_walked_at_once_l23(self):
+        for path in FILES:
+            spots = walked_on_the_spot(path)
+            calls = [node for node in nodes_of(path, ast.Call) if called_name(node) in WALKED]
+            self.assert_none([node.lineno for node in calls if (node.lineno, node.col_offset) not in spots], path)
 
     def test_is_stands_beside_none_true_false_l20(self):
         for path in FILES:

@@ -3,7 +3,7 @@
 import copy
 import unittest
 
-from builders import GREAT
+from builders import GREAT, opened_by_cubes
 from sluiceway.rules import opened, stairs_at
 
 WINTER = ((3, 2, "river"),)
@@ -42,15 +42,6 @@ class StairsAt(unittest.TestCase):
     def test_a_season_for_each_turn(self):
         stairs = [((turn, turn + 1, "river"),) for turn in range(24)]
         self.assert_year(tuple(enumerate(stairs)), stairs)
-
-
-def opened_by_cubes(stairs, water):
-    """The same, cube by cube: the cube that stands above `below` others goes by the step it stands in."""
-    ways = {"river": 0, "pump": 0, "stays": 0}
-    for below in range(water):
-        standing = [way for height, many, way in stairs if height <= below < height + many]
-        ways[standing[0] if standing else "stays"] += 1
-    return (ways["river"], ways["pump"], ways["stays"])
 
 
 class Opened(unittest.TestCase):
