@@ -9,7 +9,12 @@ from sluiceway.rules import opened, stairs_at
 
 NOTHING_ON_ITS_WAY = (0, 0, 0, 0, 0)
 
-# Where what lies behind the turn stands in a row of a page.
+# Where the parts of a row of a page stand in its tuple.
+CAME = 0
+TOOK = 1
+SPILLED = 2
+LET = 3
+PUMPED = 4
 LIES = 5
 
 

@@ -1,13 +1,21 @@
 """What several tests share.
 
 Places and houses: good ones, of which a test changes just what it is about, or made by chance. Texts bent sign by
-sign. What reaches and turns come to, reckoned straight by the words of the document.
+sign. Runs and asks made by chance. What reaches, turns and asks come to, reckoned straight by the words of the
+document.
 """
 
 from sluiceway.errors import WaterError
+from sluiceway.houses import checked, down_of
+from sluiceway.turns import start
 
 PLAIN = ((0, ((10, 5, "river"),)),)
+SHUT = ((0, ()),)
+WIDE = ((0, ((0, 10 ** 50, "river"),)),)
+QUIET = (0, 0, 0, 0, 0)
 GREAT = 10 ** 40 - 1
+# Where what can be asked of a place stands in a row of a page.
+PARTS = {"took": 1, "spilled": 2, "let": 3, "pumped": 4, "lies": 5}
 NAMES = ("alder", "birch", "cedar", "dill", "elm")
 DOWNS = ("birch", "cedar", "elm", "elm", "sea")
 
@@ -40,6 +48,21 @@ def house_with(number, place, year=4):
     places = line()
     places[number] = place
     return (year, tuple(places))
+
+
+def house_of(*places, year=1):
+    """A good house of these places."""
+    return checked((year, places))
+
+
+def empty(house):
+    """The state of a house in which nothing lies and nothing is on its way."""
+    return start(house, (0,) * len(house[1]))
+
+
+def coming_of(many, **ahead):
+    """What is on its way to so many places: nothing, but as told by `p` and the place's number."""
+    return tuple([ahead.get(f"p{number}", QUIET) for number in range(many)])
 
 
 def among_mills(*changed, year=1):
@@ -133,6 +156,62 @@ def random_state(random, house):
     brims = [place[4] if place[0] == "basin" else 0 for place in house[1]]
     levels = tuple([random.choice((0, brim, random.randrange(brim + 1))) for brim in brims])
     return (levels, tuple([random_cubes(random, 5) for brim in brims]))
+
+
+def random_run(random):
+    """A house, a state of it, a turn's number and floods."""
+    house = checked(random_house(random))
+    floods = [random_cubes(random, len(house[1])) for number in range(random.choice((0, 1, 3, 9)))]
+    return (house, random_state(random, house), random.choice((0, 1, 7, 23, 24, 1000)), floods)
+
+
+def richer_run(random, house, state, at, floods):
+    """A run of the same house from the same turn, with as much or more water everywhere."""
+    levels = []
+    for place, level in zip(house[1], state[0]):
+        highest = place[4] if place[0] == "basin" else 0
+        levels.append(random.choice((level, random.randrange(level, highest + 1))))
+    coming = tuple([raised_cubes(random, ahead) for ahead in state[1]])
+    return (house, (tuple(levels), coming), at, [raised_cubes(random, flood) for flood in floods])
+
+
+def raised_cubes(random, cubes):
+    return tuple([number + random.choice((0, 0, 0, 1, 4)) for number in cubes])
+
+
+def cubes_between(random, low, high):
+    return tuple([random.choice((least, most, random.randint(least, most))) for least, most in zip(low, high)])
+
+
+def state_between(random, low, high):
+    """A state between two states."""
+    coming = [cubes_between(random, least, most) for least, most in zip(low[1], high[1])]
+    return (cubes_between(random, low[0], high[0]), tuple(coming))
+
+
+def random_ask(random, house, pages):
+    """An ask of a basin or town of the house about a number that is found in these pages or near it; or None."""
+    places = [number for number, place in enumerate(house[1]) if place[0] != "mill"]
+    if not places:
+        return None
+    place = random.choice(places)
+    what = "took" if house[1][place][0] == "town" else random.choice(("lies", "spilled", "let", "pumped"))
+    found = [page[place][PARTS[what]] for page in pages] or [0]
+    return (what, place, random.choice(("least", "most")), random.choice(found) + random.choice((-1, 0, 0, 1)))
+
+
+def answer_by_words(pages, ask):
+    """What look tells of these pages, by the words of point 24."""
+    what, place, sense, number = ask
+    found = [page[place][PARTS[what]] for page in pages]
+    for when, cubes in enumerate(found):
+        if sense == "least" and cubes < number or sense == "most" and cubes > number:
+            return ("broken", when, cubes)
+    best = None
+    for when, cubes in enumerate(found):
+        if best is None or sense == "least" and cubes < found[best] or sense == "most" and cubes > found[best]:
+            best = when
+    return ("kept", best, None if best is None else found[best])
 
 
 def above(rows, number):
@@ -274,3 +353,14 @@ def behind_by_words(house, state, page):
         if place[0] == "basin" and place[6] is not None:
             coming[names.index(place[6][0])][place[6][1] - 1] += row[4]
     return (tuple([row[5] for row in page]), tuple([tuple(ahead) for ahead in coming]))
+
+
+def water_of(state):
+    """All that lies and all that is on its way."""
+    return sum(state[0]) + sum([sum(ahead) for ahead in state[1]])
+
+
+def gone_of(house, page):
+    """What goes to the sea in a turn that has this page."""
+    rows = [row for number, row in enumerate(page) if down_of(house, number) is None]
+    return sum([row[2] + row[3] for row in rows])

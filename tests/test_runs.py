@@ -8,23 +8,13 @@ import random
 import unittest
 
 from builders import (
-    GREAT, basin, behind_by_words, line, mill, page_by_words, random_cubes, random_house, random_state, rights_by_words,
-    town,
+    GREAT, basin, behind_by_words, gone_of, line, mill, page_by_words, random_cubes, random_run, richer_run,
+    rights_by_words, town, water_of,
 )
 from sluiceway.houses import checked, down_of
 from sluiceway.turns import rights, run, start, turn
 
 CAME, TOOK, SPILLED, LET, PUMPED, LIES = range(6)
-
-
-def water_of(state):
-    return sum(state[0]) + sum([sum(ahead) for ahead in state[1]])
-
-
-def gone_of(house, page):
-    """What goes to the sea in a turn."""
-    rows = [row for number, row in enumerate(page) if down_of(house, number) is None]
-    return sum([row[SPILLED] + row[LET] for row in rows])
 
 
 def states_of(house, state, at, floods):
@@ -33,27 +23,6 @@ def states_of(house, state, at, floods):
     for number, flood in enumerate(floods):
         states.append(turn(house, states[-1], at + number, flood)[1])
     return states
-
-
-def random_run(chance):
-    """A house, a state of it, a turn's number and floods."""
-    house = checked(random_house(chance))
-    floods = [random_cubes(chance, len(house[1])) for number in range(chance.choice((0, 1, 3, 9)))]
-    return (house, random_state(chance, house), chance.choice((0, 1, 7, 23, 24, 1000)), floods)
-
-
-def richer_run(chance, house, state, at, floods):
-    """A run of the same house from the same turn, with as much or more water everywhere."""
-    levels = []
-    for place, level in zip(house[1], state[0]):
-        highest = place[4] if place[0] == "basin" else 0
-        levels.append(chance.choice((level, chance.randrange(level, highest + 1))))
-    coming = tuple([raised_cubes(chance, ahead) for ahead in state[1]])
-    return (house, (tuple(levels), coming), at, [raised_cubes(chance, flood) for flood in floods])
-
-
-def raised_cubes(chance, cubes):
-    return tuple([number + chance.choice((0, 0, 0, 1, 4)) for number in cubes])
 
 
 class Runs(unittest.TestCase):

@@ -2,12 +2,11 @@
 
 import unittest
 
-from builders import GREAT, basin, forest, line, mill, raised, town
+from builders import GREAT, QUIET, basin, forest, line, mill, raised, town
 from sluiceway.errors import NoLevel
 from sluiceway.houses import checked
 from sluiceway.turns import start
 
-QUIET = (0, 0, 0, 0, 0)
 # Two basins with brims of 100 at places 0 and 2, one of 40 at place 4; a town at 1, a mill at 3.
 HOUSE = checked((4, tuple(line()[:4] + [basin("elm", brim=40)])))
 

@@ -6,26 +6,8 @@ Rows of pages are (CAME, TOOK, SPILLED, LET, PUMPED, LIES).
 import copy
 import unittest
 
-from builders import GREAT, basin, line, mill, town
-from sluiceway.houses import checked
+from builders import GREAT, QUIET, SHUT, WIDE, basin, coming_of, empty, house_of, line, mill, town
 from sluiceway.turns import rights, start, turn
-
-QUIET = (0, 0, 0, 0, 0)
-SHUT = ((0, ()),)
-WIDE = ((0, ((0, 10 ** 50, "river"),)),)
-
-
-def house_of(*places, year=1):
-    return checked((year, places))
-
-
-def empty(house):
-    return start(house, (0,) * len(house[1]))
-
-
-def coming_of(many, **ahead):
-    """What is on its way to so many places: nothing, but as told by `p` and the place's number."""
-    return tuple([ahead.get(f"p{number}", QUIET) for number in range(many)])
 
 
 class Turns(unittest.TestCase):
