@@ -99,9 +99,10 @@ class Gone(Asked):
     def test_whatever_the_delay(self):
         for delay in range(6):
             house = house_of(
-                basin("a", "sea", delay, 9), town("b", "sea", delay), mill("c", "d", delay), mill("d", "sea", delay),
+                basin("a", "sea", delay, 9, pump=("c", 1, 50)), town("b", "sea", delay), mill("c", "d", delay),
+                mill("d", "sea", delay),
             )
-            page = ((20, 0, 4, 7, 0, 9), (23, 3, 0, 20, 0, 0), (600, 0, 0, 600, 0, 0), (100, 0, 0, 100, 0, 0))
+            page = ((70, 0, 4, 7, 50, 9), (23, 3, 0, 20, 0, 0), (600, 0, 0, 600, 0, 0), (100, 0, 0, 100, 0, 0))
             self.assert_told(gone, house, page, told=131)
 
     def test_forty_figures(self):

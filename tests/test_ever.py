@@ -270,6 +270,26 @@ class LookEver(Told):
         for number, told in ((3, ("broken", 5, 2)), (2, ("broken", 6, 1))):
             self.assert_told(look_ever, house, full, full, floods, floods, ("let", 0, "least", number), told=told)
 
+    def test_least_of_each_what_as_the_water_runs_out(self):
+        house = house_of(
+            basin("a", "b", 0, 3, ((0, ((0, 2, "river"), (2, 2, "pump"))),), ("c", 1, 2)), town("b", need=6), mill("c"),
+            year=2,
+        )
+        low = ((3, 0, 0), coming_of(3, p0=(9, 9, 9, 9, 0)))
+        high = ((3, 0, 0), ((9,) * 5,) * 3)
+        # What is spilled, let, pumped, kept and taken by the town: 5, 2, 2, 3, 6 for two years; 0, 2, 1, 0, 2; then 0.
+        for what, number, told in (
+            ("lies", 4, ("broken", 0, 3)), ("lies", 3, ("broken", 4, 0)), ("lies", 0, ("kept", 4, 0)),
+            ("spilled", 6, ("broken", 0, 5)), ("spilled", 5, ("broken", 4, 0)), ("spilled", 0, ("kept", 4, 0)),
+            ("let", 3, ("broken", 0, 2)), ("let", 2, ("broken", 5, 0)), ("let", 0, ("kept", 5, 0)),
+            ("pumped", 3, ("broken", 0, 2)), ("pumped", 2, ("broken", 4, 1)), ("pumped", 1, ("broken", 5, 0)),
+            ("pumped", 0, ("kept", 5, 0)), ("took", 7, ("broken", 0, 6)), ("took", 6, ("broken", 4, 2)),
+            ("took", 2, ("broken", 5, 0)), ("took", 0, ("kept", 5, 0)),
+        ):
+            ask = (what, 1 if what == "took" else 0, "least", number)
+            floods = [(0, 0, 0), (0, 0, 0)]
+            self.assert_told(look_ever, house, low, high, floods, [(1, 2, 3), (4, 5, 6)], ask, 4, told=told)
+
     def test_broken_only_in_the_last_year(self):
         for brim in (6, 7, 8, 9):
             house = filling(brim)
