@@ -18,6 +18,11 @@ def gone(house, page):
 def books(house, state, at, floods):
     """Tell what lay ahead of a run, what came, what towns took, what is gone, and what lies behind it."""
     pages, behind = run(house, state, at, floods)
+    return books_of_pages(house, state, floods, pages, behind)
+
+
+def books_of_pages(house, state, floods, pages, behind):
+    """Tell the books of a run that has been run already."""
     came = sum([sum(flood) for flood in floods])
     took = sum([sum([row[TOOK] for row in page]) for page in pages])
     return (water(state), came, took, sum([gone(house, page) for page in pages]), water(behind))

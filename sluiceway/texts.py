@@ -162,8 +162,13 @@ def word_in(text, row):
 
 def number_in(text, row):
     """Read a number."""
-    if not 1 <= len(text) <= MOST_FIGURES or not all([sign in FIGURES for sign in text]):
-        raise NoText(row)
-    if text.startswith("0") and text != "0":
+    if not is_number(text):
         raise NoText(row)
     return int(text)
+
+
+def is_number(text):
+    """Tell whether a text writes a number."""
+    if not 1 <= len(text) <= MOST_FIGURES or not all([sign in FIGURES for sign in text]):
+        return False
+    return text == "0" or not text.startswith("0")

@@ -1,8 +1,8 @@
 """What several tests share.
 
 Places and houses: good ones, of which a test changes just what it is about, or made by chance. Texts bent sign by
-sign. Runs and asks made by chance. What reaches, turns and asks come to, reckoned straight by the words of the
-document.
+sign. Runs, asks, nets and plans made by chance. What reaches, turns and asks come to, and all flows and pages that are
+possible, reckoned straight by the words of the document.
 """
 
 from sluiceway.errors import WaterError
@@ -364,3 +364,127 @@ def gone_of(house, page):
     """What goes to the sea in a turn that has this page."""
     rows = [row for number, row in enumerate(page) if down_of(house, number) is None]
     return sum([row[2] + row[3] for row in rows])
+
+
+def random_net(random, many, arcs, mosts, gain):
+    """Arcs of a net of so many nodes, from each of them one without a bound; GAINs up to so much either way."""
+    told = [(node, random.randint(node + 1, many), None, random.randint(-gain, gain)) for node in range(many)]
+    while len(told) < arcs:
+        node = random.randrange(many)
+        # Many short arcs, so that ways are long and cross one another.
+        end = min(many, node + random.choice((1, 2, random.randint(1, many))))
+        told.append((node, end, random.choice(mosts), random.randint(-gain, gain)))
+    random.shuffle(told)
+    return told
+
+
+def partings(cubes, mosts):
+    """All ways to part so many cubes among some, no more to each than its most (None: no bound)."""
+    if not mosts:
+        return [[]] if cubes == 0 else []
+    most = cubes if mosts[0] is None else min(cubes, mosts[0])
+    return [[first] + rest for first in range(most + 1) for rest in partings(cubes - first, mosts[1:])]
+
+
+def all_flows(many, arcs, supplies):
+    """All flows of a small net, by the words of point 27, node by node."""
+    flows = [{}]
+    for node in range(many):
+        into = [number for number, arc in enumerate(arcs) if arc[1] == node]
+        outof = [number for number, arc in enumerate(arcs) if arc[0] == node]
+        longer = []
+        for flow in flows:
+            there = supplies[node] + sum([flow[number] for number in into])
+            for parts in partings(there, [arcs[number][2] for number in outof]):
+                longer.append({**flow, **dict(zip(outof, parts))})
+        flows = longer
+    return [[flow[number] for number in range(len(arcs))] for flow in flows]
+
+
+def bounds_of(place):
+    """How much can at most be taken, spilled, let, pumped and kept at a place in a plan (None: no bound)."""
+    need = place[4] if place[0] == "town" else 0
+    brim = place[4] if place[0] == "basin" else 0
+    pumped = place[6][2] if place[0] == "basin" and place[6] is not None else 0
+    return [need, 0, None, pumped, brim]
+
+
+def planned_turns(house, state, flood):
+    """All pages that a turn of a plan can have, by the words of point 30, place by place."""
+    pages = [()]
+    for number, place in enumerate(house[1]):
+        longer = []
+        for rows in pages:
+            unknown = ((0,) * 6,) * (len(house[1]) - number)
+            came = came_by_words(house, state, flood, rows + unknown)[number]
+            for parts in partings(state[0][number] + came, bounds_of(place)):
+                longer.append(rows + ((came,) + tuple(parts),))
+        pages = longer
+    return pages
+
+
+def planned_pages(house, state, floods):
+    """All lists of pages that a plan can have, one behind the other."""
+    if not floods:
+        yield []
+        return
+    for page in planned_turns(house, state, floods[0]):
+        for later in planned_pages(house, behind_by_words(house, state, page), floods[1:]):
+            yield [page] + later
+
+
+def is_planned(house, state, floods, pages):
+    """Whether pages are such as a plan can have, and come out as point 17 tells."""
+    if len(pages) != len(floods):
+        return False
+    for flood, page in zip(floods, pages):
+        if [row[0] for row in page] != came_by_words(house, state, flood, page):
+            return False
+        for place, lay, row in zip(house[1], state[0], page):
+            if lay + row[0] != sum(row[1:]) or min(row) < 0:
+                return False
+            if any(bound is not None and part > bound for part, bound in zip(row[1:], bounds_of(place))):
+                return False
+        state = behind_by_words(house, state, page)
+    return True
+
+
+def earned_of(house, pages, pays, left):
+    """What pages earn, by the words of point 31."""
+    told = 0
+    for page, pay in zip(pages, pays):
+        for place, row, each in zip(house[1], page, pay):
+            earning = {"town": row[1], "mill": min(row[3], place[4]), "basin": -row[4]}
+            told += earning[place[0]] * each
+    for place, row, each in zip(house[1], pages[-1] if pages else (), left):
+        told += row[5] * each if place[0] == "basin" else 0
+    return told
+
+
+def random_plan(random, house=None, turns=None):
+    """A house, a state of it, and floods, pays and LEFT, turns times places being no more than 60."""
+    house = house or checked(random_house(random))
+    many = len(house[1])
+    turns = turns or random.randint(1, 60 // many)
+    floods = [random_cubes(random, many) for number in range(turns)]
+    most = random.choice((1, 5, 1000))
+    pays = [random_cubes(random, many, most) for number in range(turns)]
+    return (house, random_state(random, house), floods, pays, random_cubes(random, many, most))
+
+
+def with_other_rules(random, house):
+    """The same house with other rules of opening, and other ranks."""
+    places = []
+    for place in house[1]:
+        if place[0] == "basin":
+            rule = random_rule(random, house[0], place[6][2] if place[6] else None)
+            place = place[:5] + (rule, place[6])
+        elif place[0] == "town":
+            place = place[:5] + (random.randrange(4),)
+        places.append(place)
+    return checked((house[0], tuple(places)))
+
+
+def one_more(row, place):
+    """A row of numbers with one more at one place, of the same kind."""
+    return row[:place] + type(row)([row[place] + 1]) + row[place + 1:]

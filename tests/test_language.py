@@ -68,6 +68,17 @@ def top_names(path):
     return names
 
 
+def methods_of(path):
+    """The names of all methods of a file's classes."""
+    bodies = [node for kind in nodes_of(path, ast.ClassDef) for node in kind.body]
+    return [node.name for node in bodies if isinstance(node, ast.FunctionDef)]
+
+
+def values_of(path):
+    """The names of all values that a file gives to objects."""
+    return [node.attr for node in nodes_of(path, ast.Attribute) if isinstance(node.ctx, ast.Store)]
+
+
 def called_name(node):
     """The name by which a node calls, None where it is no call."""
     if not isinstance(node, ast.Call):
@@ -200,12 +211,22 @@ class Language(unittest.TestCase):
                     held = [part for part in ast.walk(node.value) if isinstance(part, (ast.List, ast.Dict))]
                     self.assertLessEqual(len(held), 1, path.name)
 
-    def test_no_method_is_a_value_l18(self):
+    def test_no_method_is_a_value_in_the_whole_package_l18(self):
+        methods = [name for path in FILES for name in methods_of(path)]
+        values = [name for path in FILES for name in values_of(path)]
+        self.assertEqual(sorted(set(methods) & set(values)), [])
+
+    def test_no_method_stands_twice_l18(self):
         for path in FILES:
-            methods = [node.name for kind in nodes_of(path, ast.ClassDef) for node in kind.body
-                       if isinstance(node, ast.FunctionDef)]
-            values = [node.attr for node in nodes_of(path, ast.Attribute) if isinstance(node.ctx, ast.Store)]
-            self.assert_none(sorted(set(methods) & set(values)), path)
+            for kind in nodes_of(path, ast.ClassDef):
+                names = [node.name for node in kind.body if isinstance(node, ast.FunctionDef)]
+                self.assertEqual(len(names), len(set(names)), kind.name)
+
+    def test_methods_and_values_are_not_pythons_own_l26(self):
+        own = [name for kind in (str, int, list, tuple, dict, set, bytes, ValueError) for name in dir(kind)]
+        for path in FILES:
+            names = [name for name in methods_of(path) + values_of(path) if name not in TWO_UNDERSCORES]
+            self.assert_none(sorted(set(names) & set(own)), path)
 
     def test_handlers_l19(self):
         for path in FILES:
